@@ -14,6 +14,9 @@ import (
 // edgeLengths stand around the edges of a block and of the padding.
 var edgeLengths = []int{0, 1, 54, 55, 56, 57, 62, 63, 64, 65, 118, 119, 120, 121, 127, 128, 129, 183, 184, 191, 192, 193, 1000, 60000}
 
+// noKinds are numbers of no kind.
+var noKinds = []int{-1, -2, 2, 3, 32, 255, 256, 257, 1 << 32, 1<<32 + 1, -1 << 32, math.MaxInt, math.MinInt, math.MinInt + 1}
+
 // allBytes goes through every byte from 0 to 255.
 func allBytes() string {
 	var text strings.Builder
@@ -129,8 +132,7 @@ func TestDigestOfBothKinds(t *testing.T) {
 }
 
 func TestDigestOfOtherKinds(t *testing.T) {
-	kinds := []int{-1, -2, 2, 3, 32, 255, 256, 257, 1 << 32, 1<<32 + 1, -1 << 32, math.MaxInt, math.MinInt, math.MinInt + 1}
-	for _, kind := range kinds {
+	for _, kind := range noKinds {
 		for _, text := range []string{"", "abc", allBytes(), mixed(200, 1)} {
 			if got := impl.Digest(kind, text); got != "" {
 				t.Errorf("kind %d, %d bytes: got %x", kind, len(text), got)
