@@ -133,8 +133,12 @@ func askProof(t *testing.T, kind, m int, old string, n int, root string, proof [
 }
 
 func TestPathsAndProofsAreAccepted(t *testing.T) {
+	lengths := []int{127, 128, 129, 255, 256, 257}
+	for n := 1; n <= 70; n++ {
+		lengths = append(lengths, n)
+	}
 	for _, kind := range bothKinds {
-		for n := 1; n <= 70; n++ {
+		for _, n := range lengths {
 			for name, entries := range listsOf(n) {
 				if n > 33 && name != "different" {
 					continue
