@@ -10,7 +10,6 @@ import (
 	"strings"
 	"sync"
 	"testing"
-	"time"
 
 	"loop.example/s02884/impl"
 )
@@ -906,14 +905,7 @@ func TestLedgerLeavesNoGoroutine(t *testing.T) {
 		impl.Audit(0, len(bad), "", bad)
 		impl.Audit(0, 0, "", nil)
 	}
-	// A goroutine that has nothing more to do may be seen for a moment still.
-	for range 200 {
-		if runtime.NumGoroutine() <= before {
-			return
-		}
-		time.Sleep(time.Millisecond)
-	}
-	t.Errorf("%d goroutines, %d before", runtime.NumGoroutine(), before)
+	askGoroutines(t, before)
 }
 
 func TestLedgerDoesNotHangOnTheSchedule(t *testing.T) {

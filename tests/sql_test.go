@@ -1,7 +1,6 @@
 package tests
 
 import (
-	"fmt"
 	"math"
 	"math/big"
 	"math/rand"
@@ -866,12 +865,18 @@ func TestManyStatementsAtOnce(t *testing.T) {
 		}()
 	}
 	workers.Wait()
+	askGoroutines(t, before)
+}
+
+// askGoroutines asks that no more are there than before.
+func askGoroutines(t *testing.T, before int) {
+	t.Helper()
 	// A goroutine that has done its last act may still be counted for a moment.
-	for range 100 {
+	for range 200 {
 		if runtime.NumGoroutine() <= before {
 			return
 		}
 		time.Sleep(time.Millisecond)
 	}
-	t.Error(fmt.Sprint(runtime.NumGoroutine()-before, " goroutines are left"))
+	t.Errorf("%d goroutines, %d before", runtime.NumGoroutine(), before)
 }
